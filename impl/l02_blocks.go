@@ -142,12 +142,16 @@ func timeOk(time int64) bool {
 	return time >= 0 && time <= MaxTime
 }
 
+func packetOk(p Packet) bool {
+	return timeOk(p.Time) && len(p.Data) <= MaxData
+}
+
 func packetsOk(l []Packet) bool {
 	if len(l) > maxPackets {
 		return false
 	}
 	for _, p := range l {
-		if !timeOk(p.Time) || len(p.Data) > MaxData {
+		if !packetOk(p) {
 			return false
 		}
 	}

@@ -171,3 +171,159 @@ func TestHeadsOfAnyBytes(t *testing.T) {
 		}
 	}
 }
+
+// Promise 20: packets and the ranges of their segments stay, and what is behind them.
+func TestPromise20PacketsStay(t *testing.T) {
+	next := steady(22)
+	room := somePairs(70, next)
+	before := slices.Clone(room)
+	for many := range 62 {
+		impl.FlowsOf(room[:many])
+	}
+	if !slices.Equal(room, before) {
+		t.Error("packets")
+	}
+	ranges := []impl.Range{{From: 9, To: 3}, {From: 1, To: 1}, {From: 4, To: 5}, {From: 6, To: 7}, {From: 77, To: 78}}
+	kept := slices.Clone(ranges)
+	for many := range 5 {
+		impl.PacketOf(5, 1, 2, impl.Tcp{Sacks: ranges[:many], Data: "abc"})
+		impl.KeyOf(impl.Ip{}, impl.Tcp{Sacks: ranges[:many]})
+	}
+	if !slices.Equal(ranges, kept) {
+		t.Errorf("%v", ranges)
+	}
+}
+
+// Promise 20: flows share nothing with those given before, nor with each other.
+func TestPromise20FlowsShareNothing(t *testing.T) {
+	ranges := []impl.Range{{From: 1, To: 2}, {From: 3, To: 4}}
+	one := rawPacket(5, 1, 2, impl.Tcp{From: 7, To: 8, Sacks: ranges})
+	other := rawPacket(6, 1, 2, impl.Tcp{From: 8, To: 8, Sacks: ranges})
+	l := []impl.Packet{one, other, one, other, one}
+	want := flowsText(wantFlows(l))
+	for f := range 2 {
+		for i := range impl.FlowsOf(l)[f].Segs {
+			a := impl.FlowsOf(l)
+			rest := wantFlows(l)
+			segs := a[f].Segs
+			segs[i].T.Sacks[0].From = 99
+			_ = append(segs[i].T.Sacks, impl.Range{From: 99})
+			_ = append(segs, impl.Seg{Time: 99})
+			rest[f].Segs[i].T.Sacks[0].From = 99
+			if flowsText(a) != flowsText(rest) {
+				t.Errorf("flow %d, segment %d: %s", f, i, flowsText(a))
+			}
+			if b := impl.FlowsOf(l); flowsText(b) != want {
+				t.Errorf("flow %d, segment %d: %s", f, i, flowsText(b))
+			}
+		}
+	}
+}
+
+// Promise 20: pieces stay, and what is behind them, though the answer is written over.
+func TestPromise20PiecesStay(t *testing.T) {
+	room := []impl.Piece{{From: 2, Data: "cd"}, {From: 6, Data: "gh"}, {From: 10, Data: "kl"}, {From: 77, Data: "spare"}, {From: 78, Data: "spare"}}
+	before := slices.Clone(room)
+	for many := range 4 {
+		l := room[:many]
+		for from := range int64(16) {
+			for n := range 16 {
+				x := impl.Piece{From: from, Data: bytesOf(n)}
+				m, ok := impl.Added(l, x)
+				again, _ := impl.Added(l, x)
+				for i := range m {
+					m[i] = impl.Piece{From: -1, Data: "other"}
+				}
+				_ = append(m, impl.Piece{From: -1, Data: "other"}, impl.Piece{From: -1, Data: "other"})
+				if last, same := impl.Added(l, x); same != ok || !slices.Equal(last, again) {
+					t.Errorf("%d pieces and %+v: %+v, then %+v", many, x, again, last)
+				}
+			}
+		}
+		h := impl.Holes(l, 20)
+		h[0] = impl.Range{From: -1, To: -1}
+		if g := impl.Holes(l, 20); g[0] == h[0] {
+			t.Errorf("%d pieces: %v", many, g)
+		}
+		impl.Prefix(l)
+		impl.Known(l)
+		impl.PiecesOk(l)
+	}
+	if !slices.Equal(room, before) {
+		t.Errorf("%+v", room)
+	}
+}
+
+// Whatever can be taken apart is in a flow, whatever can not is in none.
+func TestFlowsOfAnyBytes(t *testing.T) {
+	next := steady(23)
+	for range 300 {
+		l := somePairs(60, next)
+		for i := range l {
+			if next()>>20%4 == 0 {
+				l[i].Data = cutAndTurned(l[i].Data, next)
+			}
+		}
+		flowsAre(t, "any bytes", l, wantFlows(l))
+		for _, p := range l {
+			ip, x, ok := impl.Dissect(p)
+			if !ok {
+				notDissected(t, "any bytes", p)
+				continue
+			}
+			if f, _ := impl.ReadFrame(p.Data); f.Kind != 0x0800 || ip.Proto != 6 || !impl.IpOk(ip) || !impl.TcpOk(x) {
+				t.Errorf("%+v is %+v %+v", p, ip, x)
+			}
+		}
+	}
+}
+
+// piecesRight asks of each piece by itself what a list of them must be.
+func piecesRight(l []impl.Piece) bool {
+	for i, p := range l {
+		if p.From < 0 || p.From > 6000 || p.Data == "" || len(p.Data) > 6000 {
+			return false
+		}
+		if i > 0 && p.From < l[i-1].From+int64(len(l[i-1].Data))+1 {
+			return false
+		}
+	}
+	return len(l) <= 60
+}
+
+// Lists that are right by chance are answered, those that are not have the fixed answers.
+func TestStreamsOfAnyPieces(t *testing.T) {
+	next := steady(24)
+	numbers := append([]int64{-1, 0, 1, 299, 300, 301, 5000, 5001, 6000, 6001, 20000, 20001}, extremes...)
+	number := func() int64 {
+		if next()>>20%3 == 0 {
+			return numbers[next()>>20%int64(len(numbers))]
+		}
+		return next() >> 20 % 7000
+	}
+	right := 0
+	for range 20000 {
+		l := make([]impl.Piece, next()>>20%4)
+		for i := range l {
+			l[i] = impl.Piece{From: number(), Data: bytesOf(int(max(0, min(number(), 6100))))}
+		}
+		x := impl.Piece{From: number(), Data: bytesOf(int(max(0, min(number(), 400))))}
+		ok := piecesRight(l)
+		if impl.PiecesOk(l) != ok {
+			t.Fatalf("%d pieces: %v", len(l), !ok)
+		}
+		m, added := impl.Added(l, x)
+		if added && (!ok || !piecesRight(m) || x.From < 0 || x.From > 5000 || x.Data == "" || len(x.Data) > 300) || !added && len(m) != 0 {
+			t.Errorf("%d pieces and %d bytes from %d: %d %v", len(l), len(x.Data), x.From, len(m), added)
+		}
+		if added {
+			right++
+		}
+		if h := impl.Holes(l, number()); !ok && (len(h) != 0 || impl.Prefix(l) != "" || impl.Known(l) != 0) {
+			t.Errorf("%d pieces: %v", len(l), h)
+		}
+	}
+	if right < 100 {
+		t.Errorf("only %d were added", right)
+	}
+}
