@@ -327,3 +327,116 @@ func TestStreamsOfAnyPieces(t *testing.T) {
 		t.Errorf("only %d were added", right)
 	}
 }
+
+// Promise 20: boards and what they are told stay, and what is behind them, though the answer is written over.
+func TestPromise20BoardsStay(t *testing.T) {
+	spare := impl.Range{From: 77, To: 78}
+	room := []impl.Range{{From: 4, To: 6}, {From: 9, To: 12}, {From: 20, To: 21}, spare, spare, spare, spare}
+	told := []impl.Range{{From: 14, To: 16}, {From: 5, To: 10}, {From: 16, To: 20}, spare, spare}
+	before, toldBefore := slices.Clone(room), slices.Clone(told)
+	for many := range 4 {
+		b := impl.Board{Next: 30, Sacked: room[:many]}
+		calls := []func() (impl.Board, bool){func() (impl.Board, bool) { return impl.BoardSent(b, 5) }}
+		for ack := range int64(32) {
+			calls = append(calls, func() (impl.Board, bool) { return impl.BoardAck(b, ack) })
+		}
+		for few := range 5 {
+			calls = append(calls, func() (impl.Board, bool) { return impl.BoardSack(b, told[:few]) })
+		}
+		for i, call := range calls {
+			a, ok := call()
+			kept := impl.Board{Una: a.Una, Next: a.Next, Sacked: slices.Clone(a.Sacked)}
+			other, _ := call()
+			for j := range a.Sacked {
+				a.Sacked[j] = impl.Range{From: -1, To: -1}
+			}
+			_ = append(a.Sacked, impl.Range{From: -1}, impl.Range{From: -1})
+			if last, same := call(); same != ok || !sameBoard(last, kept) || !sameBoard(other, kept) {
+				t.Errorf("%d ranges, call %d: %+v, then %+v", many, i, kept, last)
+			}
+		}
+		impl.BoardOk(b)
+		impl.Flight(b)
+		impl.LostAt(b, 1, 1)
+	}
+	if !slices.Equal(room, before) || !slices.Equal(told, toldBefore) {
+		t.Errorf("%v %v", room, told)
+	}
+}
+
+// Promise 20: a clock keeps nothing from one call to another.
+func TestPromise20SameClocks(t *testing.T) {
+	next := steady(36)
+	for range 500 {
+		r := aClock(next)
+		ms := aMeasure(r, next)
+		s, late := impl.RttStep(r, ms), impl.RttLate(r)
+		impl.RttStep(s, maxRto)
+		impl.RttStep(impl.Rtt{}, 5)
+		impl.RttLate(late)
+		if impl.RttStep(r, ms) != s || impl.RttLate(r) != late || impl.RttNew() != (impl.Rtt{Rto: 1000}) {
+			t.Errorf("%+v behind %d: %+v, then %+v", r, ms, s, impl.RttStep(r, ms))
+		}
+	}
+}
+
+// boardRight asks of each range by itself what those of a board must be.
+func boardRight(b impl.Board) bool {
+	if b.Una < 0 || b.Una > maxWin || b.Next < b.Una || b.Next > maxWin || len(b.Sacked) > 40 {
+		return false
+	}
+	least := b.Una + 1
+	for _, r := range b.Sacked {
+		if r.From < least || r.To <= r.From || r.To > b.Next {
+			return false
+		}
+		least = r.To + 1
+	}
+	return true
+}
+
+// Boards that are right by chance are answered, those that are not have the fixed answers.
+func TestBoardsOfAnyNumbers(t *testing.T) {
+	next := steady(37)
+	numbers := append([]int64{-1, 0, 1, 10000, 10001, maxWin - 1, maxWin, maxWin + 1}, extremes...)
+	number := func() int64 {
+		if next()>>20%8 == 0 {
+			return numbers[next()>>20%int64(len(numbers))]
+		}
+		return next() >> 20 % 40
+	}
+	ranges := func(many int64) []impl.Range {
+		l := make([]impl.Range, many)
+		for i := range l {
+			l[i] = impl.Range{From: number(), To: number()}
+		}
+		return l
+	}
+	right := 0
+	for range 50000 {
+		b := impl.Board{Una: number(), Next: number(), Sacked: ranges(next() >> 20 % 3)}
+		ok := boardRight(b)
+		if impl.BoardOk(b) != ok || (impl.Flight(b) == -1) == ok {
+			t.Fatalf("%+v: %v", b, !ok)
+		}
+		if ok {
+			right++
+		}
+		at := number()
+		if lost := impl.LostAt(b, at, number()); lost && (!ok || at < b.Una || at >= b.Next || inRanges(b.Sacked, at)) {
+			t.Errorf("%+v at %d", b, at)
+		}
+		for i, call := range []func() (impl.Board, bool){
+			func() (impl.Board, bool) { return impl.BoardSent(b, number()) },
+			func() (impl.Board, bool) { return impl.BoardAck(b, number()) },
+			func() (impl.Board, bool) { return impl.BoardSack(b, ranges(next()>>20%5)) },
+		} {
+			if a, did := call(); did && (!ok || !boardRight(a)) || !did && !sameBoard(a, impl.Board{}) {
+				t.Errorf("%+v, call %d: %+v %v", b, i, a, did)
+			}
+		}
+	}
+	if right < 1000 {
+		t.Errorf("only %d were right", right)
+	}
+}
