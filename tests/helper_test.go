@@ -21,6 +21,19 @@ func steady(seed uint64) func() int64 {
 	}
 }
 
+// among is often the least, the most, or a number near the least.
+func among(least, most int64, next func() int64) int64 {
+	switch next() >> 20 % 6 {
+	case 0:
+		return least
+	case 1:
+		return most
+	case 2:
+		return least + next()>>20%min(most-least+1, 40)
+	}
+	return least + next()>>20%(most-least+1)
+}
+
 func text(n int, next func() int64) string {
 	b := make([]byte, n)
 	for i := range b {

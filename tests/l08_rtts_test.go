@@ -34,20 +34,9 @@ func without(n int64) int64 {
 
 // aClock is a right one, often with a number at one of its limits.
 func aClock(next func() int64) impl.Rtt {
-	among := func(least, most int64) int64 {
-		switch next() >> 20 % 6 {
-		case 0:
-			return least
-		case 1:
-			return most
-		case 2:
-			return least + next()>>20%min(most-least, 40)
-		}
-		return least + next()>>20%(most-least+1)
-	}
-	r := impl.Rtt{Rto: among(minRto, maxRto)}
+	r := impl.Rtt{Rto: among(minRto, maxRto, next)}
 	if next()>>20%4 != 0 {
-		r.Has, r.Mean8, r.Var4 = true, among(0, maxScaled), among(0, maxScaled)
+		r.Has, r.Mean8, r.Var4 = true, among(0, maxScaled, next), among(0, maxScaled, next)
 	}
 	return r
 }

@@ -440,3 +440,137 @@ func TestBoardsOfAnyNumbers(t *testing.T) {
 		t.Errorf("only %d were right", right)
 	}
 }
+
+// Promise 20: the events stay, and what is behind them; a sender keeps nothing from one call to another.
+func TestPromise20EventsStay(t *testing.T) {
+	next := steady(44)
+	spare := impl.Event{Kind: 77, N: 78}
+	for range 200 {
+		r := aReno(next)
+		room := append(someEvents(r, 20, next), spare, spare)
+		room[next()>>20%20].Kind = 1 + next()>>20%4
+		before := slices.Clone(room)
+		for many := range 21 {
+			s, n := impl.RenoPlay(r, room[:many])
+			impl.RenoPlay(s, room[:many])
+			impl.RenoPlay(impl.Reno{}, room[:many])
+			for _, e := range room {
+				impl.RenoStep(s, e)
+			}
+			if again, m := impl.RenoPlay(r, room[:many]); again != s || m != n {
+				t.Errorf("%+v with %d events: %+v %d, then %+v %d", r, many, s, n, again, m)
+			}
+		}
+		if !slices.Equal(room, before) {
+			t.Errorf("%+v", room)
+		}
+	}
+}
+
+// Promise 20: roots and windows by the cube keep nothing from one call to another.
+func TestPromise20SameCubes(t *testing.T) {
+	next := steady(53)
+	for range 2000 {
+		n, win, at := among(0, maxCubed, next), among(0, maxWin, next), among(0, 10000, next)
+		root, k, now := impl.CubeRoot(n), impl.CubicK(win), impl.CubicWin(win, at)
+		impl.CubeRoot(maxCubed - n)
+		impl.CubicK(-1)
+		impl.CubicWin(maxWin-win, 10000-at)
+		if impl.CubeRoot(n) != root || impl.CubicK(win) != k || impl.CubicWin(win, at) != now {
+			t.Errorf("%d, %d at %d", n, win, at)
+		}
+	}
+}
+
+// renoRight asks of each number by itself what that of a sender must be.
+func renoRight(r impl.Reno) bool {
+	if r.Mss < 1 || r.Mss > 10000 || r.Win < r.Mss || r.Win > maxWin {
+		return false
+	}
+	if r.Limit < 2*r.Mss || r.Limit > maxWin || r.Over < 0 || r.Over > maxWin {
+		return false
+	}
+	if r.Phase == impl.PhMend {
+		return r.Dup == 3 && r.Gained == 0
+	}
+	if r.Dup != 0 && r.Dup != 1 && r.Dup != 2 {
+		return false
+	}
+	slow := r.Phase == impl.PhSlow && r.Win < r.Limit && r.Gained == 0
+	avoids := r.Phase == impl.PhAvoid && r.Win >= r.Limit && r.Gained >= 0 && r.Gained <= r.Win-1
+	return slow || avoids
+}
+
+func eventRight(e impl.Event) bool {
+	if e.Flight < 0 || e.Flight > maxWin || e.Ack < 0 || e.Ack > e.Next || e.Next > maxWin {
+		return false
+	}
+	if e.Kind == impl.EvAck {
+		return e.N > 0 && e.N <= maxWin
+	}
+	return (e.Kind == impl.EvDup || e.Kind == impl.EvLate) && e.N == 0
+}
+
+// Senders that are right by chance are answered, those that are not have the fixed answers.
+func TestRenosOfAnyNumbers(t *testing.T) {
+	next := steady(45)
+	numbers := append([]int64{-1, 0, 1, 2, 3, 4, 10, 10000, 10001, maxWin - 1, maxWin, maxWin + 1}, extremes...)
+	number := func() int64 { return numbers[next()>>20%int64(len(numbers))] }
+	right, stepped := 0, 0
+	for range 100000 {
+		r := aReno(next)
+		e := anEvent(r, next)
+		for _, at := range []*int64{&r.Mss, &r.Win, &r.Limit, &r.Phase, &r.Dup, &r.Over, &r.Gained, &e.Kind, &e.N, &e.Ack, &e.Flight, &e.Next} {
+			if next()>>20%12 == 0 {
+				*at = number()
+			}
+		}
+		ok := renoRight(r)
+		if impl.RenoOk(r) != ok {
+			t.Fatalf("%+v: %v", r, !ok)
+		}
+		s, did := impl.RenoStep(r, e)
+		if did != (ok && eventRight(e)) || did && s != wantReno(r, e) || !did && s != (impl.Reno{}) {
+			t.Fatalf("%+v with %+v: %+v %v", r, e, s, did)
+		}
+		p, n := impl.RenoPlay(r, []impl.Event{e})
+		switch {
+		case !ok && (n != -1 || p != (impl.Reno{})), did && (n != 1 || p != s), ok && !did && (n != 0 || p != r):
+			t.Fatalf("%+v with %+v: %+v %d", r, e, p, n)
+		}
+		if ok {
+			right++
+		}
+		if did {
+			stepped++
+		}
+	}
+	if right < 1000 || right > 99000 || stepped < 1000 || stepped == right {
+		t.Errorf("%d were right, %d of them with the event", right, stepped)
+	}
+}
+
+// Roots and windows by the cube are answered at every number.
+func TestCubesOfAnyNumbers(t *testing.T) {
+	next := steady(54)
+	numbers := append([]int64{-1, 0, 1, 10000, 10001, maxWin, maxWin + 1, maxCubed, maxCubed + 1}, extremes...)
+	number := func() int64 {
+		if next()>>20%4 == 0 {
+			return numbers[next()>>20%int64(len(numbers))]
+		}
+		return next()>>20%20000 - 5000
+	}
+	for range 50000 {
+		n, at := number(), number()
+		if r := impl.CubeRoot(n); (r == -1) != (n < 0 || n > maxCubed) || r < -1 {
+			t.Errorf("%d: %d", n, r)
+		}
+		none := n < 0 || n > maxWin
+		if k := impl.CubicK(n); (k == -1) != none || k < -1 {
+			t.Errorf("%d: %d", n, k)
+		}
+		if w := impl.CubicWin(n, at); (w == -1) != (none || at < 0 || at > 10000) || w < -1 {
+			t.Errorf("%d at %d: %d", n, at, w)
+		}
+	}
+}
