@@ -2,9 +2,11 @@ package tests
 
 import (
 	"math"
+	"runtime"
 	"slices"
 	"strings"
 	"testing"
+	"time"
 
 	"loop.example/g00559/impl"
 )
@@ -572,5 +574,330 @@ func TestCubesOfAnyNumbers(t *testing.T) {
 		if w := impl.CubicWin(n, at); (w == -1) != (none || at < 0 || at > 10000) || w < -1 {
 			t.Errorf("%d at %d: %d", n, at, w)
 		}
+	}
+}
+
+// spareWorld has the lists of w with spare room behind them, in which there is something.
+func spareWorld(w impl.World) impl.World {
+	spare := span(77, 78)
+	note := ackNote(76, spare)
+	w.Board.Sacked = append(w.Board.Sacked, spare, spare)[:len(w.Board.Sacked)]
+	w.Got = append(w.Got, streamPiece(76, 78), streamPiece(79, 80))[:len(w.Got)]
+	w.Down = append(w.Down, spare, spare)[:len(w.Down)]
+	w.Up = append(w.Up, note, note)[:len(w.Up)]
+	w.Notes = append(w.Notes, note, note)[:len(w.Notes)]
+	for _, l := range [][]impl.Note{w.Up, w.Notes} {
+		for i, n := range l {
+			l[i].Sacks = append(n.Sacks, spare, spare)[:len(n.Sacks)]
+		}
+	}
+	return w
+}
+
+// wholeWorld is w with all the room of its lists.
+func wholeWorld(w impl.World) impl.World {
+	w.Board.Sacked = w.Board.Sacked[:cap(w.Board.Sacked)]
+	w.Got = w.Got[:cap(w.Got)]
+	w.Down = w.Down[:cap(w.Down)]
+	w.Up = wholeNotes(w.Up)
+	w.Notes = wholeNotes(w.Notes)
+	return w
+}
+
+func wholeNotes(l []impl.Note) []impl.Note {
+	l = slices.Clone(l[:cap(l)])
+	for i, n := range l {
+		l[i].Sacks = n.Sacks[:cap(n.Sacks)]
+	}
+	return l
+}
+
+// overwritten writes over all lists of w, with their spare room, one by one, and asks whether the others stay.
+func overwritten(t *testing.T, w impl.World) {
+	t.Helper()
+	lists := func(w impl.World) []*[]impl.Range {
+		l := []*[]impl.Range{&w.Board.Sacked, &w.Down}
+		for _, notes := range [][]impl.Note{w.Up, w.Notes} {
+			for i := range notes {
+				l = append(l, &notes[i].Sacks)
+			}
+		}
+		return l
+	}
+	var kept [][]impl.Range
+	for _, l := range lists(w) {
+		kept = append(kept, slices.Clone(*l))
+	}
+	for i, l := range lists(w) {
+		if !slices.Equal(*l, kept[i]) {
+			t.Fatalf("%+v: %v was %v", w, *l, kept[i])
+		}
+		whole := (*l)[:cap(*l)]
+		for j := range whole {
+			whole[j] = span(-9, -9)
+		}
+	}
+	for _, l := range [][]impl.Note{w.Up[:cap(w.Up)], w.Notes[:cap(w.Notes)]} {
+		for i := range l {
+			l[i] = sendNote(-9, -9)
+		}
+	}
+	for i := range w.Got[:cap(w.Got)] {
+		w.Got[:cap(w.Got)][i] = impl.Piece{From: -9}
+	}
+}
+
+// Promise 20: worlds stay, and what is behind their lists, though the answers are written over; no two lists of one answer share any.
+func TestPromise20WorldsStay(t *testing.T) {
+	next := steady(64)
+	for range 300 {
+		w := spareWorld(aWorld(next))
+		for i := range w.Up {
+			w.Up[i].Sacks = w.Up[0].Sacks
+		}
+		before := cloneWorld(wholeWorld(w))
+		steps := make([]impl.Step, 8, 10)
+		for i := range steps {
+			steps[i] = impl.Step{Kind: 1 + next()>>20%4, At: next() >> 20 % 2}
+		}
+		stepsBefore := slices.Clone(steps[:10])
+		calls := []func() (impl.World, []int64){
+			func() (impl.World, []int64) { return impl.WorldPlay(w, steps) },
+			func() (impl.World, []int64) { return impl.WorldPlay(w, nil) },
+			func() (impl.World, []int64) { c, _ := impl.WorldCalm(w); return c, nil },
+		}
+		for _, s := range append(slices.Clone(steps), impl.Step{Kind: 9}) {
+			calls = append(calls, func() (impl.World, []int64) { n, code := impl.WorldDo(w, s); return n, []int64{code} })
+		}
+		for i, call := range calls {
+			a, codes := call()
+			kept, keptCodes := cloneWorld(a), slices.Clone(codes)
+			other, _ := call()
+			overwritten(t, a)
+			for j := range codes {
+				codes[j] = -9
+			}
+			if last, again := call(); !sameWorld(last, kept) || !sameWorld(other, kept) || !slices.Equal(again, keptCodes) {
+				t.Fatalf("call %d: %+v\nthen %+v", i, kept, last)
+			}
+		}
+		impl.WorldOk(w)
+		if !sameWorld(wholeWorld(w), before) || !slices.Equal(steps[:10], stepsBefore) {
+			t.Fatalf("%+v\nnot %+v", wholeWorld(w), before)
+		}
+	}
+}
+
+// Promise 20: notes stay, and what is behind them; an audit keeps nothing from one call to another.
+func TestPromise20NotesStay(t *testing.T) {
+	next := steady(74)
+	for range 100 {
+		p := aPlay(t, 100, next, noLook)
+		w := spareWorld(p.w)
+		before := cloneNotes(wholeNotes(w.Notes))
+		for many := range w.Notes {
+			l := w.Notes[:many]
+			f, wins := impl.Audit(w.Reno.Mss, p.many, l), impl.WinsOf(w.Reno.Mss, p.many, l)
+			kept := slices.Clone(wins)
+			for i := range wins {
+				wins[i] = -9
+			}
+			impl.NotesOk(l)
+			impl.Audit(0, 0, w.Notes)
+			impl.WinsOf(1, 1, w.Notes)
+			if impl.Audit(w.Reno.Mss, p.many, l) != f || !slices.Equal(impl.WinsOf(w.Reno.Mss, p.many, l), kept) {
+				t.Errorf("%+v: %+v %v", l, f, kept)
+			}
+		}
+		if !sameNotes(wholeNotes(w.Notes), before) {
+			t.Errorf("%+v", w.Notes)
+		}
+	}
+}
+
+// Promise 20: nothing goes on behind a call.
+func TestPromise20NothingGoesOn(t *testing.T) {
+	before := runtime.NumGoroutine()
+	for _, w := range append(rightWorlds(), wrongWorlds()...) {
+		for _, s := range anyStep() {
+			impl.WorldDo(w, s)
+		}
+		impl.WorldCalm(w)
+	}
+	// One that has come to its end may be counted a little longer.
+	for range 1000 {
+		if runtime.NumGoroutine() <= before {
+			return
+		}
+		time.Sleep(time.Millisecond)
+	}
+	t.Errorf("%d go on", runtime.NumGoroutine()-before)
+}
+
+func noteRight(n impl.Note) bool {
+	if n.Kind == impl.NtSend {
+		return n.From >= 0 && n.From < 10001 && n.N > 0 && n.N < 201 && len(n.Sacks) == 0
+	}
+	for _, r := range n.Sacks {
+		if r.From < 0 || r.To > 20000 || r.To <= r.From {
+			return false
+		}
+	}
+	return n.Kind == impl.NtAck && n.From >= 0 && n.From < 20001 && n.N == 0 && len(n.Sacks) < 4
+}
+
+// inGot asks of each place by itself whether it is there.
+func inGot(got []impl.Range, r impl.Range) bool {
+	for at := r.From; at < r.To; at++ {
+		if !inRanges(got, at) {
+			return false
+		}
+	}
+	return true
+}
+
+// worldRight asks of each part by itself what that of a world must be.
+func worldRight(w impl.World) bool {
+	if w.Total < 0 || w.Total > 3000 || !renoRight(w.Reno) || w.Reno.Mss > 200 || !boardRight(w.Board) || w.Board.Next > w.Total || !piecesRight(w.Got) {
+		return false
+	}
+	got := rangesOfPieces(w.Got)
+	for i, r := range got {
+		if r.To > w.Board.Next || w.Got[i] != streamPiece(r.From, r.To) {
+			return false
+		}
+	}
+	prefix := int64(0)
+	for inRanges(got, prefix) {
+		prefix++
+	}
+	for _, r := range w.Board.Sacked {
+		if !inGot(got, r) {
+			return false
+		}
+	}
+	for _, r := range w.Down {
+		if r.From < 0 || r.To > w.Board.Next || r.To <= r.From || r.To > r.From+w.Reno.Mss {
+			return false
+		}
+	}
+	for _, n := range w.Up {
+		if !noteRight(n) || n.Kind == impl.NtSend || n.From > prefix {
+			return false
+		}
+		for _, r := range n.Sacks {
+			if !inGot(got, r) {
+				return false
+			}
+		}
+	}
+	for _, n := range w.Notes {
+		if !noteRight(n) {
+			return false
+		}
+	}
+	return w.Board.Una <= prefix && len(w.Down) < 61 && len(w.Up) < 61 && len(w.Notes) < 301
+}
+
+// numbersOf are those of a world that may be changed, each by itself.
+func numbersOf(w *impl.World) []*int64 {
+	l := []*int64{&w.Total, &w.Board.Una, &w.Board.Next, &w.Reno.Mss, &w.Reno.Win, &w.Reno.Phase}
+	for _, ranges := range [][]impl.Range{w.Board.Sacked, w.Down} {
+		for i := range ranges {
+			l = append(l, &ranges[i].From, &ranges[i].To)
+		}
+	}
+	for i := range w.Got {
+		l = append(l, &w.Got[i].From)
+	}
+	for _, notes := range [][]impl.Note{w.Up, w.Notes} {
+		for i := range notes {
+			l = append(l, &notes[i].Kind, &notes[i].From, &notes[i].N)
+			for j := range notes[i].Sacks {
+				l = append(l, &notes[i].Sacks[j].From, &notes[i].Sacks[j].To)
+			}
+		}
+	}
+	return l
+}
+
+// Worlds that are right by chance are answered, those that are not have the fixed answers.
+func TestWorldsOfAnyNumbers(t *testing.T) {
+	next := steady(65)
+	numbers := append([]int64{-1, 0, 1, 2, 3, 60, 200, 201, 3000, 3001, 10000, 10001, 20000, 20001, maxWin}, extremes...)
+	right := 0
+	for range 10000 {
+		w := cloneWorld(aWorld(next))
+		l := numbersOf(&w)
+		at := l[next()>>20%int64(len(l))]
+		if next()>>20%4 == 0 {
+			at = l[next()>>20%6]
+		}
+		if next()>>20%3 == 0 {
+			*at = numbers[next()>>20%int64(len(numbers))]
+		} else {
+			*at += next()>>20%5 - 2
+		}
+		ok := worldRight(w)
+		if impl.WorldOk(w) != ok {
+			t.Fatalf("%+v: %v", w, !ok)
+		}
+		s := impl.Step{Kind: 1 + next()>>20%4, At: next() >> 20 % 3}
+		if ok {
+			right++
+			doesAsWanted(t, w, s)
+			continue
+		}
+		if n, code := impl.WorldDo(w, s); code != impl.WcForm || !sameWorld(n, impl.World{}) {
+			t.Fatalf("%+v: %+v %d", w, n, code)
+		}
+		noWorldPlay(t, w, []impl.Step{s})
+		if n, did := impl.WorldCalm(w); did || !sameWorld(n, impl.World{}) {
+			t.Fatalf("%+v: %+v", w, n)
+		}
+	}
+	if right < 1000 || right > 9000 {
+		t.Errorf("%d were right", right)
+	}
+}
+
+// Notes that are right by chance are audited, those that are not have the fixed answers.
+func TestAuditsOfAnyNumbers(t *testing.T) {
+	next := steady(75)
+	numbers := append([]int64{-1, 0, 1, 2, 3, 4, 5, 200, 201, 10000, 10001, 20000, 20001}, extremes...)
+	number := func() int64 {
+		if next()>>20%3 == 0 {
+			return numbers[next()>>20%int64(len(numbers))]
+		}
+		return 1 + next()>>20%2
+	}
+	right := 0
+	for range 50000 {
+		var l []impl.Note
+		for range next() >> 20 % 4 {
+			n := impl.Note{Kind: number(), From: number(), N: number()}
+			if n.Kind == impl.NtAck {
+				n.N = numbers[next()>>20%3]
+			}
+			for range max(next()>>20%5-2, 0) {
+				n.Sacks = append(n.Sacks, span(number(), number()+1))
+			}
+			l = append(l, n)
+		}
+		ok := !slices.ContainsFunc(l, func(n impl.Note) bool { return !noteRight(n) })
+		if impl.NotesOk(l) != ok {
+			t.Fatalf("%+v: %v", l, !ok)
+		}
+		mss, many := number(), number()
+		if !ok || mss < 1 || mss > 10000 || many < 1 || many > 10 {
+			auditIs(t, "not right", mss, many, l, impl.Finding{Code: impl.AuForm}, nil)
+			continue
+		}
+		right++
+		f, wins := wantAudit(mss, many, l)
+		auditIs(t, "right", mss, many, l, f, wins)
+	}
+	if right < 1000 || right > 49000 {
+		t.Errorf("%d were right", right)
 	}
 }
