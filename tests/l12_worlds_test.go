@@ -120,7 +120,7 @@ func wantHear(r *impl.Reno, b *impl.Board, ack impl.Note) bool {
 	}
 	mended := r.Phase == impl.PhMend
 	*r = wantReno(*r, e)
-	if r.Phase != impl.PhMend || b.Una == next {
+	if r.Phase != impl.PhMend {
 		return false
 	}
 	return !mended || e.N > 0
@@ -240,12 +240,36 @@ func wantCalm(w impl.World) (impl.World, bool) {
 	return w, true
 }
 
+// emptySends counts the ranges without bytes that are Down, and were noted.
+func emptySends(w impl.World) int {
+	many := 0
+	for _, r := range w.Down {
+		if r.From == r.To {
+			many++
+		}
+	}
+	for _, n := range w.Notes {
+		if n.Kind == impl.NtSend && n.N == 0 {
+			many++
+		}
+	}
+	return many
+}
+
+// asRightAsItMayBe asks that a world is right, but for what was sent without bytes, with which it is not.
+func asRightAsItMayBe(w impl.World) bool {
+	bare := cloneWorld(w)
+	bare.Down = slices.DeleteFunc(bare.Down, func(r impl.Range) bool { return r.From == r.To })
+	bare.Notes = slices.DeleteFunc(bare.Notes, func(n impl.Note) bool { return n.Kind == impl.NtSend && n.N == 0 })
+	return impl.WorldOk(bare) && impl.WorldOk(w) == (emptySends(w) == 0)
+}
+
 // doesAsWanted answers what the world is behind the step.
 func doesAsWanted(t *testing.T, w impl.World, s impl.Step) (impl.World, int64) {
 	t.Helper()
 	want, code := wantDo(w, s)
 	after, told := impl.WorldDo(w, s)
-	if told != code || !sameWorld(after, want) || !impl.WorldOk(after) {
+	if told != code || !sameWorld(after, want) || !asRightAsItMayBe(after) {
 		t.Fatalf("%+v\nwith %+v: %d\n%+v\nnot %d\n%+v", w, s, told, after, code, want)
 	}
 	return after, code
@@ -552,7 +576,7 @@ func doAre(t *testing.T, l []doCase) {
 			c.want(&want)
 		}
 		w, code := impl.WorldDo(c.w, c.s)
-		if code != c.code || !sameWorld(w, want) || !impl.WorldOk(c.w) || !impl.WorldOk(w) {
+		if code != c.code || !sameWorld(w, want) || !impl.WorldOk(c.w) || !asRightAsItMayBe(w) {
 			t.Errorf("%s: %d\n%+v\nnot %d\n%+v", c.name, code, w, c.code, want)
 		}
 	}
@@ -802,7 +826,32 @@ func TestWorldDoUpWhileItMends(t *testing.T) {
 		{"at Over, all but full", changed(all, withAcks(ackNote(20)), withNotes(299), withDown(60)), up(0), impl.WcOk, cameUp(0, withBoard(20), ended)},
 		{"just at an Over ahead of Next", changed(w, mend(20, 10)), up(0), impl.WcOk, cameUp(0, withBoard(10, span(14, 16)), withReno(worldReno(8, 8, impl.PhAvoid, 0, 10)))},
 		{"beyond an Over ahead of Next", changed(w, mend(20, 9)), up(0), impl.WcOk, cameUp(0, withBoard(10, span(14, 16)), withReno(worldReno(8, 8, impl.PhAvoid, 0, 9)))},
-		{"all that was sent, an Over beyond it", changed(all, mend(20, 21), withAcks(ackNote(20))), up(0), impl.WcOk, cameUp(0, withBoard(20), mend(12, 21))},
+	})
+}
+
+// An ack of all that was sent, of a world whose Over is beyond Next: it mends on, and sends a range without bytes.
+func TestWorldDoUpWithoutBytesToSend(t *testing.T) {
+	mend := func(win, over int64) worldChange { return withReno(worldReno(win, 8, impl.PhMend, 3, over)) }
+	w := changed(midWorld(), mend(20, 21), withAcks(ackNote(20)), func(w *impl.World) { w.Got = []impl.Piece{streamPiece(0, 20)} })
+	mendsOn := cameUp(0, withBoard(20), mend(12, 21), withSegment(20, 0))
+	full := int64(impl.WcFull)
+	doAre(t, []doCase{
+		{"one beyond Next", w, up(0), impl.WcOk, mendsOn},
+		{"far beyond Next", changed(w, mend(20, maxWin)), up(0), impl.WcOk, cameUp(0, withBoard(20), mend(12, maxWin), withSegment(20, 0))},
+		{"a byte was on its way", changed(w, withBoard(19)), up(0), impl.WcOk, cameUp(0, withBoard(20), mend(23, 21), withSegment(20, 0))},
+		{"no new bytes are left", changed(w, withTotal(20)), up(0), impl.WcOk, mendsOn},
+		{"with ranges", changed(w, withAcks(ackNote(20, span(3, 5)))), up(0), impl.WcOk, mendsOn},
+		{"the second of Up", changed(w, withAcks(ackNote(9), ackNote(20))), up(1), impl.WcOk, cameUp(1, withBoard(20), mend(12, 21), withSegment(20, 0))},
+		{"a byte less: that byte is sent", changed(w, withAcks(ackNote(19))), up(0), impl.WcOk, cameUp(0, withBoard(19), mend(13, 21), withSegment(19, 1))},
+		{"Over is Next: it mends no more", changed(w, mend(20, 20)), up(0), impl.WcOk, cameUp(0, withBoard(20), withReno(worldReno(8, 8, impl.PhAvoid, 0, 20)))},
+		{"it did not mend", changed(w, withReno(worldReno(16, maxWin, impl.PhSlow, 2, 21))), up(0), impl.WcOk, cameUp(0, withBoard(20), withReno(worldReno(20, maxWin, impl.PhSlow, 0, 21)))},
+		{"all was acked ahead of it", changed(w, withBoard(20)), up(0), impl.WcOk, cameUp(0)},
+		{"is lost", w, impl.Step{Kind: impl.WsUp, Drop: true}, impl.WcOk, lostUp(0)},
+		{"the 60th Down", changed(w, withDown(59)), up(0), impl.WcOk, mendsOn},
+		{"the 61st Down", changed(w, withDown(60)), up(0), full, nil},
+		{"the 299th and the 300th note", changed(w, withNotes(298)), up(0), impl.WcOk, mendsOn},
+		{"the 301st note", changed(w, withNotes(299)), up(0), full, nil},
+		{"the 301st note is the ack", changed(w, withNotes(300)), up(0), full, nil},
 	})
 }
 
@@ -1098,7 +1147,7 @@ func calmIs(t *testing.T, w impl.World) bool {
 	if !ok {
 		return false
 	}
-	if !impl.WorldOk(c) || c.Board.Una != c.Total || c.Board.Next != c.Total || impl.Prefix(c.Got) != streamPiece(0, w.Total).Data {
+	if !asRightAsItMayBe(c) || c.Board.Una != c.Total || c.Board.Next != c.Total || impl.Prefix(c.Got) != streamPiece(0, w.Total).Data {
 		t.Fatalf("%+v\n%+v", w, c)
 	}
 	return true
@@ -1177,28 +1226,164 @@ func noWorldPlay(t *testing.T, w impl.World, l []impl.Step) {
 	}
 }
 
+// worldPlayIs plays so many steps of a right world, and answers the world behind them.
+func worldPlayIs(t *testing.T, first impl.World, many int, mood []int64, next func() int64) impl.World {
+	t.Helper()
+	want := first
+	var l []impl.Step
+	var codes []int64
+	for range many {
+		s := someStep(want, mood, next)
+		after, code := wantDo(want, s)
+		want, l, codes = after, append(l, s), append(codes, code)
+	}
+	w, told := impl.WorldPlay(first, l)
+	if !sameWorld(w, want) || !slices.Equal(told, codes) || !asRightAsItMayBe(w) {
+		t.Fatalf("%+v: %v\n%+v\nnot %v\n%+v", l, told, w, codes, want)
+	}
+	return w
+}
+
 func TestWorldPlay(t *testing.T) {
 	next := steady(62)
 	for _, many := range []int{0, 1, 2, 50, 299, 300} {
 		for range 20 {
 			mss := among(1, 200, next)
 			first, _ := impl.WorldNew(min(mss*20, 3000), mss, 4)
-			want := first
-			var l []impl.Step
-			var codes []int64
-			for range many {
-				s := someStep(want, moods[many%3], next)
-				after, code := wantDo(want, s)
-				want, l, codes = after, append(l, s), append(codes, code)
-			}
-			w, told := impl.WorldPlay(first, l)
-			if !sameWorld(w, want) || !slices.Equal(told, codes) {
-				t.Fatalf("%+v: %v\n%+v\nnot %v\n%+v", l, told, w, codes, want)
-			}
+			worldPlayIs(t, first, many, moods[many%3], next)
 		}
 	}
 	for _, many := range []int{301, 302, 1000} {
 		noWorldPlay(t, midWorld(), make([]impl.Step, many))
+	}
+}
+
+// mendsOnWorld is about to send a range without bytes.
+func mendsOnWorld() impl.World {
+	return impl.World{
+		Total: 12,
+		Reno:  worldReno(20, 8, impl.PhMend, 3, maxWin),
+		Board: impl.Board{Next: 4},
+		Got:   []impl.Piece{streamPiece(0, 4)},
+		Down:  []impl.Range{span(0, 4)},
+		Up:    []impl.Note{ackNote(4)},
+	}
+}
+
+// A range without bytes comes down as any other, but nothing more is known by it.
+func TestWorldPlayWithoutBytes(t *testing.T) {
+	down := func(at int64) impl.Step { return impl.Step{Kind: impl.WsDown, At: at} }
+	send := impl.Step{Kind: impl.WsSend}
+	heard := []impl.Note{ackNote(4), sendNote(4, 0)}
+	for _, c := range []struct {
+		name  string
+		l     []impl.Step
+		codes []int64
+		down  []impl.Range
+		got   []impl.Piece
+		up    []impl.Note
+		notes []impl.Note
+	}{
+		{"comes down", []impl.Step{up(0), down(1)}, []int64{0, 0}, []impl.Range{span(0, 4)}, []impl.Piece{streamPiece(0, 4)}, []impl.Note{ackNote(4)}, heard},
+		{"is lost", []impl.Step{up(0), {Kind: impl.WsDown, At: 1, Drop: true}}, []int64{0, 0}, []impl.Range{span(0, 4)}, []impl.Piece{streamPiece(0, 4)}, nil, heard},
+		{"is there once", []impl.Step{up(0), down(1), down(1)}, []int64{0, 0, impl.WcNone}, []impl.Range{span(0, 4)}, []impl.Piece{streamPiece(0, 4)}, []impl.Note{ackNote(4)}, heard},
+		{"nothing is on its way by it", []impl.Step{up(0), {Kind: impl.WsLate}}, []int64{0, impl.WcNone}, []impl.Range{span(0, 4), span(4, 4)}, []impl.Piece{streamPiece(0, 4)}, nil, heard},
+		{"its ack is of nothing new", []impl.Step{up(0), down(1), up(0)}, []int64{0, 0, 0}, []impl.Range{span(0, 4)}, []impl.Piece{streamPiece(0, 4)}, nil, append(slices.Clip(heard), ackNote(4))},
+		{"new bytes come behind it", []impl.Step{up(0), send, down(2), down(1)}, []int64{0, 0, 0, 0}, []impl.Range{span(0, 4)}, []impl.Piece{streamPiece(0, 8)}, []impl.Note{ackNote(8), ackNote(8)}, append(slices.Clip(heard), sendNote(4, 4))},
+		{"new bytes that come late", []impl.Step{up(0), send, send, down(3), down(1)}, []int64{0, 0, 0, 0, 0}, []impl.Range{span(0, 4), span(4, 8)}, []impl.Piece{streamPiece(0, 4), streamPiece(8, 12)}, []impl.Note{ackNote(4, span(8, 12)), ackNote(4, span(8, 12))}, append(slices.Clip(heard), sendNote(4, 4), sendNote(8, 4))},
+		{"once more, behind new bytes", []impl.Step{up(0), send, down(2), up(0)}, []int64{0, 0, 0, 0}, []impl.Range{span(0, 4), span(4, 4), span(8, 8)}, []impl.Piece{streamPiece(0, 8)}, nil, append(slices.Clip(heard), sendNote(4, 4), ackNote(8), sendNote(8, 0))},
+	} {
+		w, codes := impl.WorldPlay(mendsOnWorld(), c.l)
+		if !slices.Equal(codes, c.codes) || !slices.Equal(w.Down, c.down) || !slices.Equal(w.Got, c.got) || !sameNotes(w.Up, c.up) || !sameNotes(w.Notes, c.notes) {
+			t.Errorf("%s: %v %+v", c.name, codes, w)
+		}
+	}
+}
+
+// A range without bytes is no piece more, but its ack is one more Up.
+func TestWorldPlayWithoutBytesAtTheLimits(t *testing.T) {
+	down := func(at int64) impl.Step { return impl.Step{Kind: impl.WsDown, At: at} }
+	w := changed(mendsOnWorld(), withUp(60), func(w *impl.World) {
+		for i := range w.Up {
+			w.Up[i] = ackNote(4)
+		}
+	})
+	after, codes := impl.WorldPlay(w, []impl.Step{up(0), down(0), down(0)})
+	if !slices.Equal(codes, []int64{0, 0, impl.WcFull}) || len(after.Up) != 60 || !slices.Equal(after.Down, []impl.Range{span(4, 4)}) {
+		t.Errorf("%v %+v", codes, after)
+	}
+	w = changed(mendsOnWorld(), withTotal(3000), withWin(1000), func(w *impl.World) { w.Reno.Mss, w.Down = 1, nil })
+	l := []impl.Step{up(0)}
+	for range 59 {
+		l = append(l, impl.Step{Kind: impl.WsSend}, impl.Step{Kind: impl.WsDown, At: 1, Drop: true}, impl.Step{Kind: impl.WsSend}, down(1))
+	}
+	after, codes = impl.WorldPlay(w, append(l, down(0)))
+	if slices.Max(codes) != impl.WcOk || len(after.Got) != 60 || len(after.Up) != 60 || len(after.Down) != 0 {
+		t.Fatalf("%v %+v", codes, after)
+	}
+	if !sameNote(after.Up[59], ackNote(4, span(5, 6), span(7, 8), span(9, 10))) {
+		t.Errorf("%+v", after.Up[59])
+	}
+}
+
+// Promise 12: plays of worlds whose Over stays beyond all that they send.
+func TestPromise12PlaysThatMendOn(t *testing.T) {
+	next := steady(66)
+	neverLate := []int64{1, 2, 2, 3, 3, 1, 2, 2, 3, 3, 1, 2, 2, 3, 3, 1, 2, 2, 3, 3}
+	empty := 0
+	for i := range 600 {
+		mss := among(1, 200, next)
+		w, _ := impl.WorldNew(min(mss*20, 3000), mss, 4)
+		w.Reno.Phase, w.Reno.Dup, w.Reno.Over = impl.PhMend, 3, maxWin
+		if next()>>20%2 == 0 {
+			w.Reno.Over = among(1, w.Total+1, next)
+		}
+		empty += emptySends(worldPlayIs(t, w, int(next()>>20%150), append(moods, neverLate)[i%4], next))
+		calmIs(t, w)
+	}
+	if empty < 200 {
+		t.Errorf("only %d were sent without bytes", empty)
+	}
+}
+
+// With what was sent without bytes a world is not right: each call that is given it answers so.
+func TestWorldWithoutBytesIsNotRight(t *testing.T) {
+	left, _ := impl.WorldDo(mendsOnWorld(), up(0))
+	noted, _ := impl.WorldPlay(mendsOnWorld(), []impl.Step{up(0), {Kind: impl.WsDown, At: 1}})
+	waits := changed(left, func(w *impl.World) { w.Notes = nil })
+	for i, w := range []impl.World{left, noted, waits} {
+		if impl.WorldOk(w) {
+			t.Errorf("%d: %+v", i, w)
+		}
+		for _, s := range anyStep() {
+			if n, code := impl.WorldDo(w, s); code != impl.WcForm || !sameWorld(n, impl.World{}) {
+				t.Errorf("%d with %+v: %+v %d", i, s, n, code)
+			}
+		}
+		noWorldPlay(t, w, nil)
+		if n, ok := impl.WorldCalm(w); ok || !sameWorld(n, impl.World{}) {
+			t.Errorf("%d: %+v %v", i, n, ok)
+		}
+	}
+}
+
+// All comes, too, when ranges without bytes come between; the last of them may be Down at the end.
+func TestWorldCalmMendsOn(t *testing.T) {
+	w := mendsOnWorld()
+	if !calmIs(t, w) {
+		t.Fatal("did not come")
+	}
+	c, _ := impl.WorldCalm(w)
+	notes := []impl.Note{
+		ackNote(4), sendNote(4, 0), ackNote(4), ackNote(4),
+		sendNote(4, 4), ackNote(8), sendNote(8, 0), ackNote(8),
+		sendNote(8, 4), ackNote(12), sendNote(12, 0),
+	}
+	if !sameNotes(c.Notes, notes) || !slices.Equal(c.Down, []impl.Range{span(12, 12)}) || len(c.Up) != 0 || c.Reno.Phase != impl.PhMend {
+		t.Errorf("%+v", c)
+	}
+	if calmIs(t, changed(w, withNotes(299))) {
+		t.Error("came with too many notes")
 	}
 }
 

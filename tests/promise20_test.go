@@ -650,8 +650,11 @@ func overwritten(t *testing.T, w impl.World) {
 // Promise 20: worlds stay, and what is behind their lists, though the answers are written over; no two lists of one answer share any.
 func TestPromise20WorldsStay(t *testing.T) {
 	next := steady(64)
-	for range 300 {
+	for round := range 300 {
 		w := spareWorld(aWorld(next))
+		if round%20 == 0 {
+			w = spareWorld(mendsOnWorld())
+		}
 		for i := range w.Up {
 			w.Up[i].Sacks = w.Up[0].Sacks
 		}
