@@ -904,3 +904,257 @@ func TestAuditsOfAnyNumbers(t *testing.T) {
 		t.Errorf("%d were right", right)
 	}
 }
+
+// spareFlow has the lists of f with spare room behind them, in which there is something.
+func spareFlow(f impl.Flow) impl.Flow {
+	spare := impl.Seg{Time: 77, Out: true, T: impl.Tcp{Seq: 78, Data: "spare"}}
+	f.Segs = append(f.Segs, spare, spare)[:len(f.Segs)]
+	for i, s := range f.Segs {
+		f.Segs[i].T.Sacks = append(s.T.Sacks, span(77, 78), span(78, 79))[:len(s.T.Sacks)]
+	}
+	return f
+}
+
+// wholeFlow is a copy of f with all the room of its lists.
+func wholeFlow(f impl.Flow) []impl.Seg {
+	segs := slices.Clone(f.Segs[:cap(f.Segs)])
+	for i, s := range segs {
+		segs[i].T.Sacks = slices.Clone(s.T.Sacks[:cap(s.T.Sacks)])
+	}
+	return segs
+}
+
+func sameSegs(a, b []impl.Seg) bool {
+	return slices.EqualFunc(a, b, func(x, y impl.Seg) bool { return x.Time == y.Time && x.Out == y.Out && sameSegment(x.T, y.T) })
+}
+
+// Promise 20: notes stay, and what is behind them, when they become a text or packets, though the answers are written over.
+func TestPromise20LogsStay(t *testing.T) {
+	next := steady(91)
+	for range 50 {
+		p := aPlay(t, 60, next, noLook)
+		w := spareWorld(p.w)
+		before := cloneNotes(wholeNotes(w.Notes))
+		for many := range w.Notes {
+			l := w.Notes[:many]
+			s := impl.NotesText(l)
+			impl.NotesText(w.Notes)
+			packets, ok := impl.PacketsOf(l, wrap-9, 5)
+			kept := slices.Clone(packets)
+			for i := range packets[:cap(packets)] {
+				packets[:cap(packets)][i] = impl.Packet{Time: -9}
+			}
+			again, same := impl.PacketsOf(l, wrap-9, 5)
+			if same != ok || !slices.Equal(again, kept) || impl.NotesText(l) != s {
+				t.Errorf("%+v: %+v, then %+v", l, kept, again)
+			}
+			read, _ := impl.ReadNotes(s)
+			overwritten(t, impl.World{Notes: read})
+			if last, ok := impl.ReadNotes(s); !ok || !sameNotes(last, l) {
+				t.Errorf("%q: %+v", s, last)
+			}
+		}
+		if !sameNotes(wholeNotes(w.Notes), before) {
+			t.Errorf("%+v", w.Notes)
+		}
+	}
+}
+
+// Promise 20: the segments of a flow stay, and what is behind them, though the notes are written over.
+func TestPromise20FlowsStay(t *testing.T) {
+	next := steady(92)
+	for range 50 {
+		p := aPlay(t, 100, next, noLook)
+		f := spareFlow(seenFlow(p.w.Notes, wrap-50, 5))
+		before := wholeFlow(f)
+		for many := range f.Segs {
+			part := impl.Flow{Segs: f.Segs[:many]}
+			notes, ok := impl.NotesOf(part)
+			kept := cloneNotes(notes)
+			overwritten(t, impl.World{Notes: notes})
+			impl.NotesOf(f)
+			if again, same := impl.NotesOf(part); same != ok || !sameNotes(again, kept) {
+				t.Errorf("%+v: %+v, then %+v", part, kept, again)
+			}
+		}
+		if !sameSegs(wholeFlow(f), before) {
+			t.Errorf("%+v", f)
+		}
+	}
+}
+
+// Promise 20: samples stay, and what is behind them, though the answers are written over.
+func TestPromise20SamplesStay(t *testing.T) {
+	next := steady(93)
+	for range 500 {
+		room := append(falling(1+next()>>20%12), sample(77, 78), sample(78, 77))
+		room[next()>>20%int64(len(room))].Time += next() >> 20 % 3
+		before := slices.Clone(room)
+		for many := range len(room) - 1 {
+			x := sample(30+next()>>20%3, 1000-next()>>20%15)
+			width := 1 + next()>>20%30
+			b := impl.Bbr{Phase: 1 + next()>>20%3, Best: room[:many], Rtt: 1 + next()>>20%3, Still: 3}
+			if b.Phase == impl.BbUp {
+				b.Still = 0
+			}
+			for i, call := range []func() []impl.Sample{
+				func() []impl.Sample { l, _ := impl.FilterAdd(room[:many], x, width); return l },
+				func() []impl.Sample { n, _ := impl.BbrStep(b, x, 5, 0); return n.Best },
+			} {
+				l := call()
+				kept := slices.Clone(l)
+				for j := range l[:cap(l)] {
+					l[:cap(l)][j] = sample(-9, -9)
+				}
+				if again := call(); !slices.Equal(again, kept) {
+					t.Errorf("call %d, %+v: %+v, then %+v", i, room[:many], kept, again)
+				}
+			}
+			best, win := impl.FilterBest(room[:many]), impl.BbrWin(b)
+			impl.FilterOk(room)
+			impl.BbrOk(b)
+			impl.BbrNew(7)
+			if impl.FilterBest(room[:many]) != best || impl.BbrWin(b) != win {
+				t.Errorf("%+v: %d %d", b, best, win)
+			}
+		}
+		if !slices.Equal(room, before) {
+			t.Errorf("%+v, not %+v", room, before)
+		}
+	}
+}
+
+// Promise 20: options stay, and what is behind them, though the answers are written over.
+func TestPromise20OptionsStay(t *testing.T) {
+	for _, l := range append(rightOptions(), wrongOptions()...) {
+		room := append(slices.Clone(l), option(77, "spare"), option(78, "spare"))
+		before := slices.Clone(room)
+		s := impl.OptsBytes(room[:len(l)])
+		read, ok := impl.ReadOpts(s)
+		kept := slices.Clone(read)
+		for i := range read[:cap(read)] {
+			read[:cap(read)][i] = option(-9, "other")
+		}
+		impl.ReadOpts(s + "\x02")
+		impl.OptsOk(room)
+		impl.OptOf(room[:len(l)], 2)
+		if again, same := impl.ReadOpts(s); same != ok || !slices.Equal(again, kept) || impl.OptsBytes(room[:len(l)]) != s {
+			t.Errorf("%+v: %+v, then %+v", l, kept, again)
+		}
+		if !slices.Equal(room, before) {
+			t.Errorf("%+v, not %+v", room, before)
+		}
+	}
+}
+
+// What is no flow of a sender is answered, too: notes that come of it are right.
+func TestNotesOfAnyFlow(t *testing.T) {
+	next := steady(94)
+	numbers := append([]int64{-1, 0, 1, 2, 10000, 10001, 20000, 20001, wrap/2 - 1, wrap / 2, wrap - 1, wrap}, extremes...)
+	number := func() int64 {
+		if next()>>20%40 == 0 {
+			return numbers[next()>>20%int64(len(numbers))]
+		}
+		return aroundWrap(next()>>20%30 - 5)
+	}
+	right := 0
+	for range 50000 {
+		var f impl.Flow
+		for range next() >> 20 % 5 {
+			s := impl.Seg{Time: number(), Out: next()>>20%2 == 0, T: impl.Tcp{Seq: number(), Ack: number(), Data: bytesOf(int(next() >> 20 % 3))}}
+			for range max(next()>>20%5-2, 0) {
+				from := number()
+				s.T.Sacks = append(s.T.Sacks, span(from, from+next()>>20%3))
+			}
+			f.Segs = append(f.Segs, s)
+		}
+		want, ok := wantNotesOf(f)
+		if !ok {
+			noNotesOf(t, "any flow", f)
+			continue
+		}
+		right++
+		notesAre(t, "any flow", f, want)
+	}
+	if right < 1000 || right > 49000 {
+		t.Errorf("%d were right", right)
+	}
+}
+
+// placeOf is a number's place behind first, the nearest way round.
+func placeOf(n, first int64) int64 {
+	at := aroundWrap(n - first)
+	if at >= wrap/2 {
+		at -= wrap
+	}
+	return at
+}
+
+// wantNotesOf asks of a short flow, segment by segment, what its notes must be.
+func wantNotesOf(f impl.Flow) ([]impl.Note, bool) {
+	first := int64(-1)
+	for _, s := range slices.Backward(f.Segs) {
+		if !impl.TcpOk(s.T) {
+			return nil, false
+		}
+		if s.Out && len(s.T.Data) > 0 {
+			first = s.T.Seq
+		}
+	}
+	if first < 0 {
+		return nil, false
+	}
+	var l []impl.Note
+	for _, s := range f.Segs {
+		var n impl.Note
+		switch {
+		case !s.Out:
+			n = ackNote(placeOf(s.T.Ack, first))
+			for _, r := range s.T.Sacks {
+				n.Sacks = append(n.Sacks, span(placeOf(r.From, first), placeOf(r.To, first)))
+			}
+		case s.T.Data == "":
+			continue
+		default:
+			n = sendNote(placeOf(s.T.Seq, first), int64(len(s.T.Data)))
+		}
+		if !noteRight(n) {
+			return nil, false
+		}
+		l = append(l, n)
+	}
+	return l, true
+}
+
+// Packets of any numbers are right, or none.
+func TestPacketsOfAnyNumbers(t *testing.T) {
+	next := steady(95)
+	numbers := append([]int64{-1, 0, 1, 200, 201, 10000, 10001, 20000, 20001, wrap - 1, wrap}, extremes...)
+	number := func() int64 {
+		if next()>>20%10 == 0 {
+			return numbers[next()>>20%int64(len(numbers))]
+		}
+		return 1 + next()>>20%9
+	}
+	right := 0
+	for range 20000 {
+		var l []impl.Note
+		for range next() >> 20 % 4 {
+			n := sendNote(number(), number())
+			if next()>>20%2 == 0 {
+				n = ackNote(number(), span(number(), 10+number()))
+			}
+			l = append(l, n)
+		}
+		first, back := number(), number()
+		if slices.ContainsFunc(l, func(n impl.Note) bool { return !noteRight(n) }) || aroundWrap(first) != first || aroundWrap(back) != back {
+			noPackets(t, "any numbers", l, first, back)
+			continue
+		}
+		right++
+		packetsAre(t, "any numbers", l, first, back)
+	}
+	if right < 1000 || right > 19000 {
+		t.Errorf("%d were right", right)
+	}
+}
