@@ -1158,3 +1158,71 @@ func TestPacketsOfAnyNumbers(t *testing.T) {
 		t.Errorf("%d were right", right)
 	}
 }
+
+// Promise 20: profiles and notes stay, and what is behind them, though the answers are written over.
+func TestPromise20ProfilesStay(t *testing.T) {
+	next := steady(103)
+	for range 30 {
+		p := aPlay(t, 60, next, noLook)
+		w := spareWorld(p.w)
+		notesBefore := cloneNotes(wholeNotes(w.Notes))
+		room := append(nearProfiles(w.Reno.Mss, p.many, next), profile(77, 7), profile(78, 8))
+		before := slices.Clone(room)
+		l := room[:len(room)-2]
+		for many := range w.Notes {
+			n := w.Notes[:many]
+			fits, again := impl.Fits(l, n), impl.Again(n)
+			least, most, ok := impl.WinBounds(l, n, int64(many-1))
+			goodput := impl.Goodput(n)
+			keptFits, keptAgain := slices.Clone(fits), slices.Clone(again)
+			for _, answer := range [][]int64{fits[:cap(fits)], again[:cap(again)]} {
+				for i := range answer {
+					answer[i] = -9
+				}
+			}
+			impl.Fits(room, w.Notes)
+			impl.WinBounds(room[:1], w.Notes, 0)
+			impl.Again(w.Notes)
+			impl.Goodput(nil)
+			if !slices.Equal(impl.Fits(l, n), keptFits) || !slices.Equal(impl.Again(n), keptAgain) || impl.Goodput(n) != goodput {
+				t.Errorf("%+v of %+v: %v %v %d", l, n, keptFits, keptAgain, goodput)
+			}
+			if a, b, same := impl.WinBounds(l, n, int64(many-1)); a != least || b != most || same != ok {
+				t.Errorf("%+v of %+v: %d %d %v, then %d %d %v", l, n, least, most, ok, a, b, same)
+			}
+		}
+		if !slices.Equal(room, before) || !sameNotes(wholeNotes(w.Notes), notesBefore) {
+			t.Errorf("%+v, not %+v; %+v", room, before, w.Notes)
+		}
+	}
+}
+
+// Promise 20: fragments stay, and what is behind them, though the answers are written over.
+func TestPromise20FragmentsStay(t *testing.T) {
+	next := steady(113)
+	for range 300 {
+		body := letters(int(1+next()>>20%480), next)
+		size := 8 * (1 + next()>>20%37)
+		l, _ := impl.FragsOf(body, size)
+		kept := slices.Clone(l)
+		for i := range l[:cap(l)] {
+			l[:cap(l)][i] = last(-9, "other")
+		}
+		if again, ok := impl.FragsOf(body, size); !ok || !slices.Equal(again, kept) {
+			t.Errorf("%q by %d: %+v, then %+v", body, size, kept, again)
+		}
+		room := append(mixed(slices.Concat(kept, kept), next), last(0, "spare"), more(601, "spare"))
+		before := slices.Clone(room)
+		for many := range len(room) + 1 {
+			s, ok := impl.Whole(room[:many])
+			impl.Whole(room)
+			impl.FragOk(room[max(many-1, 0)])
+			if again, same := impl.Whole(room[:many]); again != s || same != ok {
+				t.Errorf("%+v: %q %v, then %q %v", room[:many], s, ok, again, same)
+			}
+		}
+		if !slices.Equal(room, before) {
+			t.Errorf("%+v, not %+v", room, before)
+		}
+	}
+}
