@@ -720,13 +720,20 @@ func TestPromise20NotesStay(t *testing.T) {
 
 // Promise 20: nothing goes on behind a call.
 func TestPromise20NothingGoesOn(t *testing.T) {
-	before := runtime.NumGoroutine()
-	for _, w := range append(rightWorlds(), wrongWorlds()...) {
-		for _, s := range anyStep() {
-			impl.WorldDo(w, s)
+	nothingGoesOn(t, func() {
+		for _, w := range append(rightWorlds(), wrongWorlds()...) {
+			for _, s := range anyStep() {
+				impl.WorldDo(w, s)
+			}
+			impl.WorldCalm(w)
 		}
-		impl.WorldCalm(w)
-	}
+	})
+}
+
+func nothingGoesOn(t *testing.T, calls func()) {
+	t.Helper()
+	before := runtime.NumGoroutine()
+	calls()
 	// One that has come to its end may be counted a little longer.
 	for range 1000 {
 		if runtime.NumGoroutine() <= before {
@@ -1224,5 +1231,79 @@ func TestPromise20FragmentsStay(t *testing.T) {
 		if !slices.Equal(room, before) {
 			t.Errorf("%+v, not %+v", room, before)
 		}
+	}
+}
+
+// Promise 20: the same script says the same, whatever was run ahead of it, or is run at the same time.
+func TestPromise20SameScripts(t *testing.T) {
+	next := steady(124)
+	for range 40 {
+		l, _ := mixedLines(40, next)
+		text := scriptOf(l...)
+		kept := strings.Clone(text)
+		said := impl.RunScript(text)
+		impl.RunScript(scriptOf("world 3000 200 10", "send", "send"))
+		impl.RunScript(scriptOf("world 3000 200 10", "send") + "late")
+		impl.RunScript(strings.Repeat(text, 2))
+		if again := impl.RunScript(text); again != said || text != kept {
+			t.Errorf("%q said %q, then %q", text, said, again)
+		}
+		if first := impl.RunScript("show\naudit\nsend\n"); first != "show 0 0 1 1 0 0 0\naudit 0 0\nno 2\n" {
+			t.Errorf("behind %q: %q", text, first)
+		}
+		answers := make(chan string)
+		for range 4 {
+			go func() { answers <- impl.RunScript(text) }()
+		}
+		for range 4 {
+			if again := <-answers; again != said {
+				t.Errorf("%q said %q, and %q at the same time", text, said, again)
+			}
+		}
+	}
+}
+
+// Promise 20: nothing goes on behind a script.
+func TestPromise20NoScriptGoesOn(t *testing.T) {
+	next := steady(125)
+	nothingGoesOn(t, func() {
+		for range 100 {
+			l, _ := mixedLines(40, next)
+			impl.RunScript(scriptOf(l...))
+		}
+	})
+}
+
+// Scripts of any bytes say what is wanted.
+func TestScriptsOfAnyBytes(t *testing.T) {
+	next := steady(126)
+	bytes := []byte("\n\n  01239-x\t\r\x00\xffsu")
+	long, other := 0, 0
+	for range 20000 {
+		l, _ := mixedLines(int(1+next()>>20%41), next)
+		b := []byte(scriptOf(l...))
+		for range next() >> 20 % 6 {
+			at := next() >> 20 % int64(len(b))
+			b[at] = bytes[next()>>20%int64(len(bytes))]
+		}
+		if next()>>20%10 == 0 {
+			b = b[:next()>>20%int64(len(b)+1)]
+		}
+		text := string(b)
+		want := wantScript(text)
+		scriptIs(t, "any bytes", text, want)
+		if want == tooLong {
+			long++
+		} else {
+			other++
+		}
+	}
+	if long < 1000 || other < 10000 {
+		t.Errorf("%d were too long, %d were not", long, other)
+	}
+	for range 5000 {
+		s := text(int(next()>>20%60), next)
+		scriptIs(t, "any bytes", s, wantScript(s))
+		scriptIs(t, "any bytes, ended", s+"\n", wantScript(s+"\n"))
 	}
 }
